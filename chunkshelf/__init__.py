@@ -1,0 +1,1 @@
+"""Chunkshelf: versions of texts in pieces, each kept once."""
