@@ -1,4 +1,4 @@
-"""DOC.md's interface as far as it has landed, and what the package's own files may hold."""
+"""DOC.md's interface, and what the package's own files may hold."""
 
 import ast
 import inspect
@@ -6,29 +6,67 @@ import pathlib
 import unittest
 
 import chunkshelf
-from chunkshelf import cutting
+from chunkshelf import cutting, notes, shelves, stock
 
 FOLDER = pathlib.Path(chunkshelf.__file__).parent
 FUNCTIONS = {
-    "weight": ["signs"],
-    "few": ["count", "width", "reach"],
-    "cuts": ["text", "width", "reach"],
-    "pieces": ["text", "width", "reach"],
+    cutting: {
+        "weight": ["signs"],
+        "few": ["count", "width", "reach"],
+        "cuts": ["text", "width", "reach"],
+        "pieces": ["text", "width", "reach"],
+    },
+    notes: {"written": ["shelf"], "read": ["text"]},
+}
+METHODS = {
+    stock.Stock: {
+        "__init__": [], "need": ["text"], "count": ["number"], "free": ["number"], "piece": ["number"], "numbers": [],
+    },
+    shelves.Shelf: {
+        "__init__": ["width", "reach"],
+        "keep": ["name", "text"],
+        "drop": ["name", "number"],
+        "change": ["name", "number", "start", "end", "text"],
+        "text": ["name", "number"],
+        "row": ["name", "number"],
+        "versions": ["name"],
+        "names": [],
+        "pieces": [],
+        "needed": ["number"],
+        "signs": [],
+        "altered": ["name", "one", "other"],
+    },
 }
 # LANGUAGE.md L2: what may be imported beside modules of the package.
 LIBRARY = ("heapq", "math", "itertools", "collections", "__future__")
 
 
-class CuttingInterfaceTest(unittest.TestCase):
-    def test_names_and_arguments(self):
-        for name, arguments in FUNCTIONS.items():
-            with self.subTest(name=name):
-                function = getattr(cutting, name)
-                self.assertTrue(inspect.isfunction(function))
-                self.assertEqual(function.__module__, "chunkshelf.cutting")
-                self.assertEqual(list(inspect.signature(function).parameters), arguments)
+class InterfaceTest(unittest.TestCase):
+    def test_functions(self):
+        for module, functions in FUNCTIONS.items():
+            for name, arguments in functions.items():
+                with self.subTest(name=name):
+                    function = getattr(module, name)
+                    self.assertTrue(inspect.isfunction(function))
+                    self.assertEqual(function.__module__, module.__name__)
+                    self.assertEqual(list(inspect.signature(function).parameters), arguments)
 
-    def test_kinds_of_values(self):
+    def test_classes_and_their_own_methods(self):
+        for kind, methods in METHODS.items():
+            self.assertTrue(inspect.isclass(kind))
+            for name, arguments in methods.items():
+                with self.subTest(kind=kind, name=name):
+                    # In the class itself, not only in a base class.
+                    self.assertTrue(inspect.isfunction(vars(kind)[name]))
+                    self.assertEqual(list(inspect.signature(vars(kind)[name]).parameters), ["self"] + arguments)
+        self.assertEqual((stock.Stock.__module__, stock.Stock.__name__), ("chunkshelf.stock", "Stock"))
+        self.assertEqual((shelves.Shelf.__module__, shelves.Shelf.__name__), ("chunkshelf.shelves", "Shelf"))
+
+    def test_bounds(self):
+        self.assertEqual((type(shelves.MOST_SIGNS), shelves.MOST_SIGNS), (int, 3000))
+        self.assertEqual((type(shelves.MOST_VERSIONS), shelves.MOST_VERSIONS), (int, 100))
+
+    def test_kinds_of_values_of_cutting(self):
         self.assertIs(type(cutting.weight("ab")), int)
         self.assertIs(type(cutting.few(3, 1, 1)), int)
         places = cutting.cuts("bacbac", 1, 1)
